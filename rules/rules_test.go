@@ -27,7 +27,7 @@ var leans = map[string]string{
 }
 
 // own are packages beside the layers.
-var own = []string{"api"}
+var own = []string{"api", "copies"}
 
 // library are the library's packages of which the language has something.
 const library = " bytes cmp container/heap errors iter maps math math/bits slices sort strconv strings sync sync/atomic unicode unicode/utf8 "

@@ -22,7 +22,7 @@ var leans = map[string]string{
 	"frame": "crc fields", "disk": "", "wal": "crc fields disk", "ckpt": "wal disk", "lockstore": "frame ckpt disk",
 	"link": "frame", "exec": "", "agree": "inputs", "channel": "inputs ilxa ilxb vote agree",
 	"pair": "topo inputs ilxa vote lockstore agree channel disk", "lease": "", "relay": "frame", "repl": "fields frame",
-	"switchover": "lease", "platform": "frame disk link exec pair lease relay repl switchover agree", "model": "ilxa",
+	"switchover": "lease", "platform": "frame disk link exec pair lease relay repl switchover", "model": "ilxa",
 	"safety": "conflict inputs", "bound": "platform", "console": "crc layout platform bound",
 }
 

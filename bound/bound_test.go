@@ -137,7 +137,8 @@ func TestRoundWrong(t *testing.T) { // P30.2
 	if c.Round(nine, setR) != api.ErrArg || c.Round(setR, nine) != api.ErrArg || c.Done() != 0 || w.Steps() != steps {
 		t.Error("too many commands")
 	}
-	if c.Round(api.Input{Commands: make([]api.Command, 8), Occupied: 1 << 60}, setR) != api.OK || c.Done() != 1 {
+	eight := api.Input{Commands: make([]api.Command, 8), Occupied: 1 << 60}
+	if c.Round(eight, setR) != api.OK || c.Round(setR, eight) != api.OK || c.Done() != 2 {
 		t.Error("an input that isn't right is read")
 	}
 	var none *Calm

@@ -8,6 +8,7 @@ import (
 	"semaphore/agree"
 	"semaphore/api"
 	"semaphore/ilxa"
+	"semaphore/ilxb"
 	"semaphore/inputs"
 	"semaphore/layout"
 	"semaphore/vote"
@@ -96,6 +97,11 @@ func TestNew(t *testing.T) { // P21.1
 	if c[0].State() != (api.State{}) || c[1].State() != (api.State{}) {
 		t.Error("the state at first")
 	}
+	_, a := c[0].lock.(*ilxa.Machine)
+	_, b := c[1].lock.(*ilxb.Machine)
+	if !a || !b {
+		t.Error("A's is not ilxa's, or B's not ilxb's")
+	}
 	for _, x := range []*Channel{nil, {}} {
 		r, err := x.Begin(1, api.Input{})
 		if err != api.ErrNil || !reflect.DeepEqual(r, agree.Reading{}) || x.Restore(api.State{}, 0, 0) != api.ErrNil || x.Hear(nil) != api.ErrNil || x.Take() != api.ErrNil {
@@ -159,6 +165,9 @@ func TestRestore(t *testing.T) { // P21.2
 		}
 		if r, err := x.Begin(6, api.Input{}); err != api.OK || r.Cycle != 6 {
 			t.Error("the next cycle", err)
+		}
+		if x.Restore(api.State{}, 0, api.MaxCycle) != api.OK {
+			t.Error("to the last one")
 		}
 		if x.Restore(api.State{}, 0, 2) != api.OK {
 			t.Error("to an earlier one")

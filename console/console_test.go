@@ -89,7 +89,7 @@ func TestNoLines(t *testing.T) { // P31.1
 		answers(t, line, "error 310")
 		behind(t, line+";units", "error 310; units 11 0 0 11 0 0")
 	}
-	behind(t, "do 6 4611686018427387904 -4611686018427387904", "ok")
+	behind(t, "do 6 4611686018427387904 -4611686018427387904;do 1 0 0;do 16 0 3", "ok; ok; ok")
 }
 
 func TestSteps(t *testing.T) { // P31.1

@@ -100,10 +100,12 @@ func TestFindExamples(t *testing.T) { // P1.3
 
 func TestFindIsTheNearestChange(t *testing.T) { // P1.3
 	r := rand.New(rand.NewSource(3))
-	for range 200 {
+	for i := range 232 {
 		n := 1 + r.Intn(40)
 		unlike := r.Uint32()
-		if r.Intn(4) > 0 {
+		if i < 32 {
+			unlike = 1 << i
+		} else if r.Intn(4) > 0 {
 			unlike, _ = Change(0, 0, byte(r.Intn(256)), r.Intn(50))
 		}
 		k, by, ok := Find(unlike, n)

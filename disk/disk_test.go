@@ -173,23 +173,29 @@ func TestCopy(t *testing.T) { // P14.3
 	d := New(2)
 	d.Write(0, []byte("a"))
 	d.Sync()
-	d.Write(1, []byte("b"))
+	for range 3 { // so that there is room for one more behind them
+		d.Write(1, []byte("b"))
+	}
 	d.Fail(1)
 	c := d.Copy()
-	if c.Write(0, []byte("x")) != api.OK || c.Sync() != api.ErrDisk || c.Steps() != 5 || c.Open() != 2 {
+	if c.Write(0, []byte("x")) != api.OK || c.Sync() != api.ErrDisk || c.Steps() != 7 || c.Open() != 4 {
 		t.Error("a copy isn't armed likewise")
 	}
-	if d.Off() || d.Steps() != 3 || d.Open() != 1 {
+	if d.Off() || d.Steps() != 5 || d.Open() != 3 {
 		t.Error("what is done to the copy is seen")
 	}
 	reads(t, d, 0, "a")
-	if e := c.Copy(); !e.Off() || e.Open() != 2 {
+	if e := c.Copy(); !e.Off() || e.Open() != 4 {
 		t.Error("a copy of one that is off")
 	}
 	d.Write(0, []byte("y"))
-	c.On([]uint8{255, 255})
+	c.On([]uint8{255, 255, 255, 255})
 	reads(t, c, 0, "x")
 	reads(t, c, 1, "b")
+	d.Crash()
+	d.On(nil)
+	reads(t, d, 0, "a")
+	reads(t, d, 1, "")
 }
 
 func TestMemory(t *testing.T) { // P14.4

@@ -20,7 +20,7 @@ func TestRight(t *testing.T) { // P9.1
 	for _, in := range []api.Input{
 		{}, {Occupied: 7, Normal: 3, Reverse: 3}, {Commands: []api.Command{}},
 		commands(api.Command{Kind: api.Set, N: 3}, api.Command{Kind: api.Cancel, N: 3}, api.Command{Kind: api.Move, N: 1}),
-		commands(make8()...),
+		commands(api.Command{Kind: api.Set}, api.Command{Kind: api.Cancel}, api.Command{Kind: api.Move}), commands(make8()...),
 	} {
 		if !Right(l, in) {
 			t.Error("not right:", in)

@@ -452,9 +452,9 @@ func TestDisk(t *testing.T) { // P27.2: 10, 11, 12
 
 func TestSpoil(t *testing.T) { // P27.2: 13
 	w := led(t, 10)
-	w.Do(Step{Kind: 13, A: 0, N: 3, Spoil: api.State{Locked: 4}})
-	w.Do(Step{Kind: 13, A: 0, N: 2, Spoil: api.State{Locked: 4}}) // the other one was
-	w.Do(Step{Kind: 13, A: 0, N: 1, Spoil: api.State{Points: 1}})
+	spoil := func(n int, x api.State) { w.Do(Step{Kind: 13, A: 0, N: n, Spoil: x}) }
+	spoil(3, api.State{Locked: 4})
+	spoil(2, api.State{Locked: 4}) // not done: the other one was
 	cycle(w, 0, asked())
 	shows(t, w, 0, 0, true)
 	is(t, w, 0, true, true, 2)
@@ -462,14 +462,88 @@ func TestSpoil(t *testing.T) { // P27.2: 13
 	keeps(t, w, 0, 0, 1, 0)
 	do(w, 14, 0, 0)
 	is(t, w, 0, true, false, 0)
-	w.Do(Step{Kind: 13, A: 0, N: 0, Spoil: api.State{Locked: 4}})
-	w.Do(Step{Kind: 13, A: 0, N: 0, Spoil: api.State{Locked: 4}})
+	spoil(0, api.State{Locked: 4}) // since it led last, none was
+	spoil(-1, api.State{Locked: 4})
+	cycle(w, 0, asked())
+	is(t, w, 0, true, true, 2)
+	do(w, 14, 0, 0)
+	spoil(0, api.State{Locked: 4})
+	spoil(0, api.State{Locked: 4}) // turned back
 	cycle(w, 0, setR)
 	shows(t, w, 1, 0, false)
 	do(w, 11, 0, 0)
+	spoil(1, api.State{Locked: 4})
 	do(w, 12, 0, 0)
-	do(w, 13, 0, 1)
-	ticks(w, 1, 5)
+	ticks(w, 0, 5)
+	do(w, 14, 0, 0)
+	cycle(w, 0, asked())
+	shows(t, w, 1, 0, false)
+}
+
+func TestLeadingAnew(t *testing.T) { // to ask the book
+	w := led(t, 10)
+	read(w, 0, setR)
+	pick(w, 0, 1, 2, 3, 0)
+	if w.Readings(0) != 2 {
+		t.Error("readings", w.Readings(0))
+	}
+	ticks(w, 0, 9)
+	is(t, w, 0, true, true, 1)
+	do(w, 14, 0, 0)
+	if w.Readings(0) != 0 {
+		t.Error("readings are on their way yet", w.Readings(0))
+	}
+	is(t, w, 0, true, false, 0)
+	keeps(t, w, 0, 1, 2, 1)
+	cycle(w, 0, asked())
+	shows(t, w, 1, 0, false)
+}
+
+// TestTwoThatLead lets unit 0 think that it leads in the epoch 1, while unit 1 does in the epoch 2.
+func TestTwoThatLead(t *testing.T) { // what is heard of the other unit
+	w := led(t, 10)
+	do(w, 16, 0, 31)
+	for range 9 {
+		do(w, 6, 0, 0)
+	}
+	ticks(w, 0, 1)
+	for range 5 {
+		do(w, 5, 1, 0)
+	}
+	is(t, w, 0, true, false, 0)
+	is(t, w, 1, true, false, 0)
+	do(w, 7, 1, 0) // a beat of the epoch 1
+	is(t, w, 1, true, false, 0)
+	cycle(w, 1, setR)
+	for range 2 { // a beat of the epoch 2, and a record
+		do(w, 9, 0, 0)
+		do(w, 9, 0, 1)
+	}
+	do(w, 7, 0, 0)
+	is(t, w, 0, false, true, 0)
+	keeps(t, w, 0, 0, 1, 0)
+	do(w, 7, 0, 0)
+	keeps(t, w, 0, 1, 2, 1)
+}
+
+func TestRecordToOneThatLeads(t *testing.T) { // what is heard of the other unit
+	w := led(t, 10)
+	do(w, 16, 0, 31)
+	for range 9 {
+		do(w, 6, 0, 0)
+	}
+	for range 5 {
+		do(w, 5, 1, 0)
+	}
+	cycle(w, 1, setR)
+	ticks(w, 0, 9) // late: it is stopped, and thinks that it leads
+	is(t, w, 0, true, true, 0)
+	way := w.Way(1)
+	do(w, 7, 0, 1) // the record
+	keeps(t, w, 0, 0, 1, 0)
+	if w.Way(1) != way {
+		t.Error("it answered", w.Way(1), way)
+	}
 }
 
 func TestReset(t *testing.T) { // P27.2: 14

@@ -172,6 +172,11 @@ func TestBeat(t *testing.T) { // P26.4
 	for range 4 {
 		s.Tick(0)
 	}
+	wants(t, s.Beat(1), None)
+	is(t, s, Standby, 0, 1)
+	for range 4 {
+		s.Tick(0)
+	}
 	wants(t, s.Beat(3), None)
 	is(t, s, Standby, 0, 3)
 	for range 4 {
